@@ -1,0 +1,1 @@
+"""Ringwindows: counts round a ring with bounds for windows."""
