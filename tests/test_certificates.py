@@ -3,7 +3,7 @@
 import unittest
 from time import perf_counter
 
-from ringwindows.reasons import bound_of, certificate_holds, find_certificate
+from ringwindows.reasons import bound_of, certificate_holds, find_certificate, totals_of
 from tests import oracle
 from tests.oracle import JUNK, LIMIT, TRIANGLE
 
@@ -30,6 +30,16 @@ def changed(value):
                 yield value[:at] + (other,) + value[at + 1:]
 
 
+def with_bools(value):
+    """Yields the value with one 0 or 1, at any depth, replaced by False or True."""
+    if type(value) is int and value in (0, 1):
+        yield bool(value)
+    if type(value) is tuple:
+        for at, part in enumerate(value):
+            for other in with_bools(part):
+                yield value[:at] + (other,) + value[at + 1:]
+
+
 def same(one, other):
     """Whether they are equal, and bools only to bools."""
     return repr(one) == repr(other)
@@ -47,6 +57,9 @@ class Found(unittest.TestCase):
                 self.assertTrue(oracle.certificate_is_right(n, rules, certificate), certificate)
                 start = perf_counter()
                 self.assertIs(certificate_holds(n, rules, certificate), True)
+                self.assertLess(perf_counter() - start, PROMPT)
+                start = perf_counter()
+                totals_of(n, rules)
                 self.assertLess(perf_counter() - start, PROMPT)
             if certificate[0] == "never":
                 kinds["never 1" if len(certificate) == 2 else "never 2"] += 1
@@ -204,6 +217,15 @@ class Accepted(unittest.TestCase):
                     self.fail(f"{n}, {rules}, {value}: {found}")
                 refused += not found
         self.assertGreater(refused, 10000)
+
+    def test_bools_right_after_numbers(self):
+        for n, rules in ((3, TRIANGLE), (3, EXACT), (2, ((0, 1, 3, 2),)), (1, ((0, 1, 0, 0),)), (2, ((0, 1, 1, 1),))):
+            certificate = find_certificate(n, rules)
+            values = list(with_bools(certificate))
+            self.assertGreater(len(values), 1)
+            for value in values:
+                self.assertIs(certificate_holds(n, rules, certificate), True)
+                self.refused(n, rules, value)
 
     def test_parts_that_cannot_be_missed(self):
         for at in range(3):
