@@ -67,6 +67,11 @@ def counts_of(heights, total):
     return tuple([end - start for start, end in zip(heights, ends)])
 
 
+def heights_of(filling):
+    """Returns the heights of the filling, with 0 at place 0."""
+    return [sum(filling[:place]) for place in range(len(filling))]
+
+
 def turns_of(loop):
     """Returns how often the loop goes round the ring."""
     return sum([link[3] for link in loop])

@@ -7,6 +7,7 @@ from fractions import Fraction
 from itertools import product
 from math import ceil, floor
 from random import Random
+from re import fullmatch
 
 LIMIT = 1000000000
 TRIANGLE = ((0, 2, 1, 2), (1, 2, 1, 2), (2, 2, 1, 2))
@@ -132,6 +133,127 @@ def listed_totals(n, rules):
     return (min(totals), None if endless else max(totals))
 
 
+def compositions(n, total):
+    """All fillings for n with the total, in ascending order."""
+    if n == 1:
+        yield (total,)
+        return
+    for count in range(total + 1):
+        for rest in compositions(n - 1, total - count):
+            yield (count,) + rest
+
+
+def listed_fillings(n, rules, total):
+    """All fillings with the total that fit, in ascending order."""
+    return [filling for filling in compositions(n, total) if fit(rules, filling)]
+
+
+def differences(n, rules, total):
+    """What the sums s(0), .., s(n) of the counts before each place must keep: (a, b, d) says s(b) - s(a) >= d."""
+    yield from ((place, place + 1, 0) for place in range(n))
+    yield from ((0, n, total), (n, 0, -total))
+    for first, size, least, most in rules:
+        end = first + size
+        if end <= n:
+            yield (first, end, least)
+            if most is not None:
+                yield (end, first, -most)
+        else:
+            # The other places have the rest of the total.
+            yield (first, end - n, least - total)
+            if most is not None:
+                yield (end - n, first, total - most)
+
+
+def can_fill(n, rules, total):
+    """Whether a filling with the total fits: the sums are raised until all is kept, or it never ends."""
+    sums = [0] * (n + 1)
+    kept = list(differences(n, rules, total))
+    for step in range(n + 2):
+        before = list(sums)
+        for a, b, difference in kept:
+            sums[b] = max(sums[b], sums[a] + difference)
+        if sums == before:
+            return True
+    return False
+
+
+def counts_fixed(filling, many):
+    """Rules that fix the first counts to those of the filling."""
+    return tuple((place, 1, filling[place], filling[place]) for place in range(many))
+
+
+def crosses(one, other):
+    """Whether units that cross the borders, at most one each, lead from one filling to the other."""
+    for crossing in (-1, 0, 1):
+        # The crossing before place 0 is tried; the counts tell all others, back to that one.
+        crossings = [crossing]
+        for before, after in zip(one, other):
+            crossings.append(crossings[-1] + before - after)
+        if crossings[-1] == crossing and all(-1 <= units <= 1 for units in crossings):
+            return True
+    return False
+
+
+def way_is_right(n, rules, one, other, value):
+    if type(value) is not tuple or value == ():
+        return False
+    if not all(filling_is_right(n, filling) and fit(rules, filling) for filling in value):
+        return False
+    if value[0] != one or value[-1] != other:
+        return False
+    return all(crosses(value[k], value[k + 1]) for k in range(len(value) - 1))
+
+
+def fewest_steps(fillings, start):
+    """The number of steps from the start to each filling if all fillings on the way are among these."""
+    found = {start: 0}
+    front = [start]
+    while front:
+        reached = {filling for filling in fillings for last in front if filling not in found and crosses(last, filling)}
+        for filling in reached:
+            found[filling] = found[front[0]] + 1
+        front = sorted(reached)
+    return found
+
+
+NUMBER = "(0|[1-9][0-9]*)"
+
+
+def rule_from(n, word):
+    found = fullmatch(f"{NUMBER}[+]{NUMBER}:{NUMBER}[.][.]{NUMBER}?", word)
+    if found is None:
+        return None
+    rule = tuple(None if part is None else int(part) for part in found.groups())
+    return rule if rule_is_right(n, rule) else None
+
+
+def ring_from(value):
+    """What parse_ring returns, or ("bad", index)."""
+    if type(value) is not str:
+        return ("bad", None)
+    words = value.split(" ")
+    if fullmatch("([1-9]|10|11|12):", words[0]) is None:
+        return ("bad", 0)
+    n = int(words[0][:-1])
+    rules = [rule_from(n, word) for word in words[1:]]
+    for index, rule in enumerate(rules):
+        if rule is None or index == 16:
+            return ("bad", index + 1)
+    return (n, tuple(rules))
+
+
+def filling_from(n, value):
+    """What parse_filling returns, or ("bad", index)."""
+    if type(value) is not str:
+        return ("bad", None)
+    words = value.split(" ")
+    for index, word in enumerate(words):
+        if fullmatch(NUMBER, word) is None or len(word) > 30 or index == n:
+            return ("bad", index)
+    return tuple(int(word) for word in words) if len(words) == n else ("bad", len(words))
+
+
 def small_rings():
     """Small rings with all kinds of rules, few enough fillings to list."""
     random = Random(20)
@@ -147,7 +269,12 @@ def small_rings():
 
 def near_rules(random, n, many, reach, slack):
     """Rules round a hidden filling, so that they bound each other closely."""
-    hidden = [random.randint(0, reach // n) for place in range(n)]
+    return rules_round(random, [random.randint(0, reach // n) for place in range(n)], many, slack)
+
+
+def rules_round(random, hidden, many, slack):
+    """Rules that the hidden filling fits, most of them closely."""
+    n = len(hidden)
     rules = []
     for index in range(many):
         first, size = random.randrange(n), random.randint(1, n)
@@ -170,6 +297,21 @@ def great_rings():
             first, size, least, most = rules[at]
             rules[at] = (first, size, min(LIMIT, least + random.choice([1, 2, reach])), most)
         yield n, tuple(rules)
+
+
+def close_rings():
+    """Rings of up to 12 places with rules that a filling fits closely, and that filling."""
+    random = Random(23)
+    for step in range(150):
+        n = random.choice([1, 2, 3, 5, 8, 11, 12, 12, 12])
+        reach = random.choice([1, 3, 1000, 10 ** 7])
+        hidden = tuple(random.choice([0, random.randint(0, reach), reach]) for place in range(n))
+        slack = random.choice([1, max(1, reach // 4)])
+        rules = rules_round(random, hidden, random.choice([1, 4, 8, 12, 16, 16]), slack)
+        if step % 3 == 0:
+            # Without a most at the last place, all greater totals are possible too.
+            rules = [rule[:3] + (None if n - 1 in places(n, rule[0], rule[1]) else rule[3],) for rule in rules]
+        yield n, tuple(rules), hidden
 
 
 def wild_rings():

@@ -1,48 +1,14 @@
 """Promise [8], and [2] (a) and (h): certificates are found, are right, and only right ones are accepted."""
 
 import unittest
-from time import perf_counter
 
 from ringwindows.reasons import bound_of, certificate_holds, find_certificate, totals_of
 from tests import oracle
 from tests.oracle import JUNK, LIMIT, TRIANGLE
-
-# A call takes a few thousandths of a second; the rest is for a busy machine.
-PROMPT = 2
+from tests.tools import changed, promptly, same, with_bools
 
 GOOD = ("totals", ((1, 1, 0), ((0, 1, 2), ())), ((1, 1, 1), ((), (0, 1, 2))))
 EXACT = ((0, 2, 1, 1), (1, 2, 1, 1), (2, 2, 1, 1))
-
-
-def changed(value):
-    """Yields the value with one part, at any depth, replaced, removed or repeated."""
-    for junk in JUNK + (0, 1, 2, 10 ** 30, ((), ()), ((0,), ()), ((), (0,)), "totals"):
-        yield junk
-    if type(value) is int:
-        yield from (value + 1, value - 1, bool(value))
-    if type(value) is tuple:
-        yield list(value)
-        yield value[::-1]
-        for at, part in enumerate(value):
-            yield value[:at] + value[at + 1:]
-            yield value[:at] + (part,) + value[at:]
-            for other in changed(part):
-                yield value[:at] + (other,) + value[at + 1:]
-
-
-def with_bools(value):
-    """Yields the value with one 0 or 1, at any depth, replaced by False or True."""
-    if type(value) is int and value in (0, 1):
-        yield bool(value)
-    if type(value) is tuple:
-        for at, part in enumerate(value):
-            for other in with_bools(part):
-                yield value[:at] + (other,) + value[at + 1:]
-
-
-def same(one, other):
-    """Whether they are equal, and bools only to bools."""
-    return repr(one) == repr(other)
 
 
 class Found(unittest.TestCase):
@@ -51,16 +17,10 @@ class Found(unittest.TestCase):
         kinds = {"endless": 0, "totals": 0, "never 1": 0, "never 2": 0}
         for n, rules in rings:
             with self.subTest(n=n, rules=rules):
-                start = perf_counter()
-                certificate = find_certificate(n, rules)
-                self.assertLess(perf_counter() - start, PROMPT)
+                certificate = promptly(find_certificate, n, rules)
                 self.assertTrue(oracle.certificate_is_right(n, rules, certificate), certificate)
-                start = perf_counter()
-                self.assertIs(certificate_holds(n, rules, certificate), True)
-                self.assertLess(perf_counter() - start, PROMPT)
-                start = perf_counter()
-                totals_of(n, rules)
-                self.assertLess(perf_counter() - start, PROMPT)
+                self.assertIs(promptly(certificate_holds, n, rules, certificate), True)
+                promptly(totals_of, n, rules)
             if certificate[0] == "never":
                 kinds["never 1" if len(certificate) == 2 else "never 2"] += 1
             else:

@@ -1,6 +1,7 @@
 """The interface stands where the document lists it, and the files keep the plain rules of form."""
 
 import ast
+import builtins
 import os
 import re
 import unittest
@@ -13,7 +14,47 @@ DEFINED = {
         "mirrored_rules",
     ),
     "reasons.py": ("bound_of", "totals_of", "find_certificate", "certificate_holds"),
+    "fillings.py": (
+        "window_range", "smallest_filling", "greatest_filling", "next_filling", "walk_fillings", "count_fillings",
+    ),
+    "steps.py": ("least_steps", "find_way", "way_holds"),
+    "texts.py": ("ring_text", "filling_text", "parse_ring", "parse_filling"),
+    "errors.py": (
+        "RingError", "TooMany", "NotDivisible", "NotAlike", "OutOfRange", "BadRing", "BadRules", "Never", "Busy",
+        "TooManyEdits", "BadUnits", "TooFew", "Broken", "BadFilling", "BadRule", "TooManyRules", "BadSize",
+        "NothingToUndo", "BadEdits", "BadEdit", "Rejected", "BadNote", "BadText", "NoPlace", "NoTotal", "NoRule",
+        "NoVersion",
+    ),
 }
+
+ARGUMENTS = {
+    "window_range": "n rules total first size", "smallest_filling": "n rules total",
+    "greatest_filling": "n rules total", "next_filling": "n rules filling", "walk_fillings": "n rules total",
+    "count_fillings": "n rules total", "least_steps": "one other", "find_way": "n rules one other",
+    "way_holds": "n rules one other value", "ring_text": "n rules", "filling_text": "filling", "parse_ring": "value",
+    "parse_filling": "n value",
+}
+
+# L8, without the names that the files have no use for so far.
+BUILTINS = (
+    "len range enumerate zip min max sum abs sorted reversed int str bool list tuple dict set isinstance ord repr any "
+    "all divmod ValueError LookupError"
+).split()
+
+# The first list of L25, and the additional ones that are used.
+METHODS = (
+    "append clear copy count endswith extend find get index insert isalnum isalpha isdigit islower isspace isupper "
+    "items join keys ljust lower lstrip partition pop remove replace reverse rfind rjust rpartition rsplit rstrip "
+    "setdefault split splitlines startswith strip update upper values zfill bit_length isascii"
+).split()
+
+# L6, L7: nothing else of the language is in use; what a later file needs is to be looked up there first.
+NODES = (
+    "Module Expr Constant ImportFrom alias FunctionDef ClassDef arguments arg Return Assign AugAssign Name Load Store "
+    "Attribute Subscript Slice Tuple List ListComp comprehension Call keyword If IfExp For While Raise Yield Compare "
+    "BoolOp UnaryOp BinOp And Or Not USub Add Sub Mult FloorDiv Mod Pow Eq NotEq Lt LtE Gt GtE Is IsNot In NotIn "
+    "JoinedStr FormattedValue"
+).split()
 
 BARRED = (
     "type|typing|typing_extensions|enum|Enum|IntEnum|StrEnum|Flag|IntFlag|Generic|Protocol|ABC|ABCMeta|namedtuple|"
@@ -32,8 +73,13 @@ class Form(unittest.TestCase):
     def test_interface(self):
         texts = dict(files())
         for name, expected in DEFINED.items():
-            found = [node.name for node in ast.parse(texts[name]).body if isinstance(node, ast.FunctionDef)]
-            self.assertEqual([function for function in expected if found.count(function) != 1], [], name)
+            body = ast.parse(texts[name]).body
+            found = [node.name for node in body if isinstance(node, (ast.FunctionDef, ast.ClassDef))]
+            self.assertEqual([wanted for wanted in expected if found.count(wanted) != 1], [], name)
+            for node in body:
+                if isinstance(node, ast.FunctionDef) and node.name in ARGUMENTS:
+                    self.assertEqual([arg.arg for arg in node.args.args], ARGUMENTS[node.name].split(), node.name)
+                    self.assertEqual(node.args.defaults, [])
 
     def test_sizes_and_characters(self):
         for name, text in files():
@@ -64,6 +110,72 @@ class Form(unittest.TestCase):
                 if isinstance(node, ast.ImportFrom):
                     self.assertRegex(node.module, r"\Aringwindows\.[a-z]+\Z")
                     self.assertEqual(node.level, 0)
+
+    def test_no_imports_in_a_circle(self):
+        imports = {}
+        for name, text in files():
+            found = [node for node in ast.walk(ast.parse(text)) if isinstance(node, ast.ImportFrom)]
+            imports[name[:-3]] = {node.module.split(".")[1] for node in found}
+        while imports:
+            free = [name for name in imports if not imports[name] & set(imports)]
+            self.assertNotEqual(free, [], imports)
+            for name in free:
+                del imports[name]
+
+    def test_parts_of_the_language(self):
+        for name, text in files():
+            for node in ast.walk(ast.parse(text)):
+                with self.subTest(name=name, line=getattr(node, "lineno", None)):
+                    self.assertIn(node.__class__.__name__, NODES)
+                    if isinstance(node, ast.Constant):
+                        self.assertIn(type(node.value), (int, str, bool, type(None)))
+                    if isinstance(node, ast.Compare) and isinstance(node.ops[0], (ast.Is, ast.IsNot)):
+                        self.assertIsInstance(node.comparators[0], ast.Constant)
+                    if isinstance(node, (ast.FunctionDef, ast.ClassDef)):
+                        self.assertEqual(node.decorator_list, [])
+
+    def test_module_level(self):
+        for name, text in files():
+            body = ast.parse(text).body
+            self.assertIsInstance(body[0].value.value, str)
+            bound = []
+            for node in body[1:]:
+                self.assertIsInstance(node, (ast.ImportFrom, ast.FunctionDef, ast.ClassDef, ast.Assign), name)
+                if isinstance(node, ast.ImportFrom):
+                    bound += [alias.name for alias in node.names]
+                else:
+                    bound.append(node.targets[0].id if isinstance(node, ast.Assign) else node.name)
+            self.assertEqual(sorted(set(bound)), sorted(bound), name)
+
+    def test_names(self):
+        for name, text in files():
+            tree = ast.parse(text)
+            imported = [node.names for node in tree.body if isinstance(node, ast.ImportFrom)]
+            imported = [alias.name for names in imported for alias in names]
+            classes = [node.name for node in tree.body if isinstance(node, ast.ClassDef)]
+            for node in ast.walk(tree):
+                if isinstance(node, (ast.FunctionDef, ast.ClassDef)):
+                    self.own_name(node.name)
+                if isinstance(node, ast.arg):
+                    self.own_name(node.arg)
+                    self.assertNotIn(node.arg, imported + classes)
+                if isinstance(node, ast.Name) and isinstance(node.ctx, ast.Store):
+                    self.own_name(node.id)
+                    self.assertNotIn(node.id, imported + classes)
+
+    def own_name(self, name):
+        if name != "__init__":
+            self.assertRegex(name, r"\A[A-Za-z][A-Za-z0-9_]*\Z")
+            self.assertFalse(hasattr(builtins, name), name)
+
+    def test_builtins_and_methods(self):
+        for name, text in files():
+            for node in ast.walk(ast.parse(text)):
+                if isinstance(node, ast.Name) and hasattr(builtins, node.id):
+                    self.assertIn(node.id, BUILTINS, name)
+                if isinstance(node, ast.Call) and isinstance(node.func, ast.Attribute):
+                    self.assertIn(node.func.attr, METHODS, name)
+                    self.assertEqual(node.keywords, [])
 
 
 if __name__ == "__main__":
