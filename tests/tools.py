@@ -18,10 +18,10 @@ def promptly(function, *arguments):
     return result
 
 
-def outcome(function, *arguments):
+def outcome(function, *arguments, **named):
     """Returns ("returns", result), or ("raises", name, fields) of the error."""
     try:
-        return ("returns", function(*arguments))
+        return ("returns", function(*arguments, **named))
     except Exception as error:
         return ("raises", error.__class__.__name__, dict(vars(error)))
 
@@ -59,6 +59,12 @@ def with_lists(value):
         for at, part in enumerate(value):
             for other in with_lists(part):
                 yield value[:at] + (other,) + value[at + 1:]
+
+
+def view(desk):
+    """Returns all that a desk tells without an argument, or with each version."""
+    versions = [desk.state(version=version) for version in range(len(desk) + 1)]
+    return (desk.rules, desk.filling, desk.total, desk.totals, len(desk), str(desk), desk.edits(), versions)
 
 
 def same(one, other):
